@@ -1,0 +1,52 @@
+"""Moves of the focus' point. Each says if there is such a row, or place; if not, it changes nothing."""
+
+from foldedwindows.folds import seen_lines
+from foldedwindows.rows import all_rows, row_with_place
+from foldedwindows.state import focus_view, screen_rooms
+
+
+def move_rows(screen, step):
+    """To the row that is a step further among all rows."""
+    view = focus_view(screen)
+    rows = all_rows(screen.lines, screen.folds, screen_rooms(screen)[screen.focus].width)
+    number = row_with_place(rows, view.line, view.place)
+    if not 0 <= number + step < len(rows):
+        return False
+    row = rows[number + step]
+    view.place = min(row.start + view.place - rows[number].start, last_place(row))
+    view.line = row.line
+    return True
+
+
+def last_place(row):
+    """The last place that is in a row."""
+    # The place behind a row's last byte is in the next row, if the line has one.
+    return row.end if row.last else row.end - 1
+
+
+def move_left(screen):
+    """One place back, or to the end of the line before that is seen."""
+    view = focus_view(screen)
+    if view.place > 0:
+        view.place -= 1
+        return True
+    if view.line == 0:
+        return False
+    # Line 0 is always seen, so there is one before.
+    view.line = seen_lines(screen.folds, view.line)[-1]
+    view.place = len(screen.lines[view.line])
+    return True
+
+
+def move_right(screen):
+    """One place on, or to the beginning of the next line that is seen."""
+    view = focus_view(screen)
+    if view.place < len(screen.lines[view.line]):
+        view.place += 1
+        return True
+    behind = [line for line in seen_lines(screen.folds, len(screen.lines)) if line > view.line]
+    if len(behind) == 0:
+        return False
+    view.line = behind[0]
+    view.place = 0
+    return True
