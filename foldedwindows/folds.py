@@ -1,9 +1,28 @@
 """Folds: tuples of the first line and the number of the line behind the last one."""
 
+LEAST_LINES = 2
+
 
 def hides(fold, line):
     """If a fold hides a line; its first line stays seen."""
     return fold[0] < line < fold[1]
+
+
+def has_line(fold, line):
+    """If a fold has a line in it, its first one too."""
+    return fold[0] <= line < fold[1]
+
+
+def stand_together(fold, other):
+    """If one of two folds is within the other, or they are apart."""
+    if fold[1] <= other[0] or other[1] <= fold[0]:
+        return True
+    return is_within(fold, other) or is_within(other, fold)
+
+
+def is_within(fold, other):
+    """If a fold is within another one; an end may be shared."""
+    return other[0] <= fold[0] and fold[1] <= other[1]
 
 
 def seen_line(folds, line):
@@ -20,3 +39,28 @@ def seen_lines(folds, line_count):
 def folds_not_hiding(folds, line):
     """The folds that stay when those that hide a line are opened."""
     return [fold for fold in folds if not hides(fold, line)]
+
+
+def begins_fold(folds, line):
+    """If a line is a fold's first."""
+    return any([fold[0] == line for fold in folds])
+
+
+def parted_folds(folds, line):
+    """The folds after a line has gone into two."""
+    return [(up_behind(first, line), up_behind(end, line)) for first, end in folds]
+
+
+def up_behind(number, line):
+    """The number of a line, or a fold's end, after a line has gone into two."""
+    return number + 1 if number > line else number
+
+
+def joined_folds(folds, line):
+    """The folds after a line has been joined to the one before."""
+    joined = []
+    for first, end in folds:
+        fold = (first - 1 if first >= line else first, end - 1 if end > line else end)
+        if fold[1] - fold[0] >= LEAST_LINES and fold not in joined:
+            joined.append(fold)
+    return joined

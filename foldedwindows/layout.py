@@ -52,10 +52,27 @@ def window_rooms(part, room):
     """The room of each window of a part that has a room."""
     if isinstance(part, int):
         return {part: room}
-    pair = rooms_across(part, room) if part.across == 1 else rooms_down(part, room)
+    pair = rooms_of_both(part, room)
     rooms = window_rooms(part.first, pair[0])
     rooms.update(window_rooms(part.second, pair[1]))
     return rooms
+
+
+def lines_between(part, room):
+    """The rooms of the lines between a part's windows, each behind 1, if it's between parts that are across, or 0."""
+    if isinstance(part, int):
+        return []
+    pair = rooms_of_both(part, room)
+    if part.across == 1:
+        line = Room(pair[1].column - 1, room.row, 1, room.height)
+    else:
+        line = Room(room.column, pair[1].row - 1, room.width, 1)
+    return [(part.across, line)] + lines_between(part.first, pair[0]) + lines_between(part.second, pair[1])
+
+
+def rooms_of_both(part, room):
+    """The rooms of two parts."""
+    return rooms_across(part, room) if part.across == 1 else rooms_down(part, room)
 
 
 def rooms_across(part, room):

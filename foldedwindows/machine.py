@@ -38,3 +38,28 @@ def state_allowed(end, arms, state_count):
 def arm_allowed(arm, state_count):
     """If an arm may be one of a machine of so many states."""
     return arm[0] <= arm[1] <= MOST_BYTE and arm[2] <= MOST_COLOUR and arm[3] < state_count
+
+
+def text_colours(states, lines):
+    """The colours of the bytes of all lines, as colouring from the beginning gives them."""
+    if len(states) == 0:
+        return [[0] * len(line) for line in lines]
+    colours = []
+    state = 0
+    for line in lines:
+        line_colours = []
+        for byte in line:
+            step = colour_and_next(states, state, byte)
+            line_colours.append(step[0])
+            state = step[1]
+        colours.append(line_colours)
+        state = states[state][0]
+    return colours
+
+
+def colour_and_next(states, state, byte):
+    """The colour of a byte in a state, and the state behind it."""
+    for arm in states[state][1]:
+        if arm[0] <= byte <= arm[1]:
+            return (arm[2], arm[3])
+    return (0, state)

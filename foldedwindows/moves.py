@@ -1,15 +1,18 @@
-"""Moves of the focus' point. Each says if there is such a row, or place; if not, it changes nothing."""
+"""Moves of the focus' point and top.
+
+Each move of the point alone says if there is such a row, or place; if not, it changes nothing.
+"""
 
 from foldedwindows.folds import seen_lines
-from foldedwindows.rows import all_rows, row_with_place
-from foldedwindows.state import focus_view, screen_rooms
+from foldedwindows.state import focus_view, screen_rooms, window_rows
+from foldedwindows.views import point_number, put_top, top_number
 
 
 def move_rows(screen, step):
     """To the row that is a step further among all rows."""
     view = focus_view(screen)
-    rows = all_rows(screen.lines, screen.folds, screen_rooms(screen)[screen.focus].width)
-    number = row_with_place(rows, view.line, view.place)
+    rows = window_rows(screen, screen_rooms(screen)[screen.focus].width)
+    number = point_number(view, rows)
     if not 0 <= number + step < len(rows):
         return False
     row = rows[number + step]
@@ -50,3 +53,18 @@ def move_right(screen):
     view.line = behind[0]
     view.place = 0
     return True
+
+
+def scroll_rows(screen, back, count):
+    """The top goes so many rows back (1) or on (0), and the point just so far that it is seen."""
+    view = focus_view(screen)
+    room = screen_rooms(screen)[screen.focus]
+    rows = window_rows(screen, room.width)
+    point = point_number(view, rows)
+    top = top_number(view, rows)
+    top = max(top - count, 0) if back == 1 else min(top + count, len(rows) - 1)
+    put_top(view, rows[top])
+    nearest = min(max(point, top), top + room.height - 1)
+    if nearest != point:
+        view.line = rows[nearest].line
+        view.place = rows[nearest].start

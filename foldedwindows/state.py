@@ -1,6 +1,7 @@
 """All that is kept of one screen between its calls."""
 
 from foldedwindows.layout import Room, window_rooms
+from foldedwindows.rows import all_rows
 from foldedwindows.views import View, settle_view
 
 FIRST_WIDTH = 20
@@ -27,7 +28,17 @@ class Screen:
 
 def screen_rooms(screen):
     """The room of each window."""
-    return window_rooms(screen.windows, Room(0, 0, screen.width, screen.height))
+    return window_rooms(screen.windows, full_room(screen))
+
+
+def full_room(screen):
+    """The room that all windows have together."""
+    return Room(0, 0, screen.width, screen.height)
+
+
+def window_rows(screen, width):
+    """All rows at a window's width."""
+    return all_rows(screen.lines, screen.folds, width)
 
 
 def focus_view(screen):

@@ -50,11 +50,26 @@ def settle_top(view, lines, folds, rows):
 
 def follow_point(view, rows, height):
     """Move the top just so far that the point's row is among those that the window shows."""
-    point = row_with_place(rows, view.line, view.place)
-    top = first_row_of(rows, view.top_line) + view.top_row
+    point = point_number(view, rows)
+    top = top_number(view, rows)
     if point < top:
         top = point
     elif point >= top + height:
         top = point + 1 - height
-    view.top_line = rows[top].line
-    view.top_row = rows[top].number
+    put_top(view, rows[top])
+
+
+def point_number(view, rows):
+    """The number, among all rows, of the row in which a settled view's point is."""
+    return row_with_place(rows, view.line, view.place)
+
+
+def top_number(view, rows):
+    """The number, among all rows, of a settled view's top."""
+    return first_row_of(rows, view.top_line) + view.top_row
+
+
+def put_top(view, row):
+    """A row is the view's top."""
+    view.top_line = row.line
+    view.top_row = row.number

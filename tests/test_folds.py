@@ -2,7 +2,8 @@
 
 import unittest
 
-from foldedwindows.folds import folds_not_hiding, seen_line, seen_lines
+from foldedwindows.changes import join_line, part_line
+from foldedwindows.folds import folds_not_hiding, joined_folds, parted_folds, seen_line, seen_lines, stand_together
 from foldedwindows.layout import Room
 from foldedwindows.screen import call_down, call_goto, call_left, call_right, call_up, settled_answer
 from foldedwindows.state import Screen
@@ -33,6 +34,49 @@ class FoldsTest(unittest.TestCase):
         self.assertEqual(folds_not_hiding(folds, 0), folds)
         self.assertEqual(folds_not_hiding(folds, 3), [(3, 5), (6, 8)])
         self.assertEqual(folds_not_hiding(folds, 5), [(2, 5), (3, 5), (6, 8)])
+
+
+    def test_within_around_or_apart(self):
+        for other in ((3, 7), (2, 7), (3, 8), (2, 8), (4, 6), (3, 6), (4, 7), (0, 3), (0, 2), (7, 9), (8, 10)):
+            self.assertTrue(stand_together((3, 7), other), other)
+            self.assertTrue(stand_together(other, (3, 7)), other)
+        for other in ((2, 4), (2, 6), (6, 8), (4, 8), (0, 5)):
+            self.assertFalse(stand_together((3, 7), other), other)
+            self.assertFalse(stand_together(other, (3, 7)), other)
+
+
+class FoldsAfterChangesTest(unittest.TestCase):
+    """The line that is changed is always seen when there is a call; what is told of folds around it holds anyway."""
+
+    def test_parted(self):
+        self.assertEqual(parted_folds([(0, 2), (0, 3), (1, 4), (3, 5), (4, 6), (0, 9)], 3),
+                         [(0, 2), (0, 3), (1, 5), (3, 6), (5, 7), (0, 10)])
+        self.assertEqual(parted_folds([], 0), [])
+
+    def test_joined(self):
+        self.assertEqual(joined_folds([(0, 2), (0, 3), (1, 4), (3, 5), (4, 6), (0, 9)], 3),
+                         [(0, 2), (0, 3), (1, 3), (2, 4), (3, 5), (0, 8)])
+
+    def test_a_fold_with_fewer_than_two_lines_goes(self):
+        self.assertEqual(joined_folds([(2, 4), (0, 9)], 3), [(0, 8)])
+        self.assertEqual(joined_folds([(2, 5), (1, 4)], 3), [(2, 4), (1, 3)])
+
+    def test_of_alike_ones_one_stays(self):
+        self.assertEqual(joined_folds([(2, 6), (3, 6)], 3), [(2, 5)])
+        self.assertEqual(joined_folds([(3, 6), (0, 9), (2, 6)], 3), [(2, 5), (0, 8)])
+        self.assertEqual(joined_folds([(1, 4), (1, 3)], 3), [(1, 3)])
+
+    def test_parted_within_a_fold(self):
+        kept = folded(8, [(1, 6), (4, 6)])
+        kept.views[0].line = 3
+        part_line(kept)
+        self.assertEqual(kept.folds, [(1, 7), (5, 7)])
+
+    def test_folds_that_hide_the_line_before_are_opened_first(self):
+        kept = folded(8, [(0, 3), (0, 6), (2, 6), (3, 6)])
+        kept.views[0].line = 3
+        join_line(kept)
+        self.assertEqual(kept.folds, [(2, 5)])
 
 
 class CallsWithFoldsTest(unittest.TestCase):

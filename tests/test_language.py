@@ -134,6 +134,7 @@ class NamesTest(unittest.TestCase):
                 drawn[name].append(node.module.split(".")[1])
                 tops = ast.parse(sources()[drawn[name][-1]]).body
                 defined = [top.name for top in tops if isinstance(top, (ast.FunctionDef, ast.ClassDef))]
+                defined += [top.targets[0].id for top in tops if isinstance(top, ast.Assign)]
                 for alias in node.names:
                     self.assertIsNone(alias.asname)
                     self.assertIn(alias.name, defined)

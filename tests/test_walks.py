@@ -4,19 +4,7 @@ import random
 import unittest
 
 from tests.asking import ACROSS, CLOSE, DOWN, DOWN_SPLIT, LEFT, RIGHT, UP, asked, focus, goto, screen, text
-
-
-def wrapped(line, width):
-    """A line's rows, told another way than the program does."""
-    rows = []
-    while len(line) > width:
-        if line[width] == " ":
-            row = line[:width] + " " * (len(line[width:]) - len(line[width:].lstrip(" ")))
-        else:
-            row = line[:line[:width].rfind(" ") + 1] or line[:width]
-        rows.append(row)
-        line = line[len(row):]
-    return rows + [line] if line or not rows else rows
+from tests.told import wrapped
 
 
 def place_row(rows, place):
